@@ -319,21 +319,27 @@ func knownIn(n Node, kid int) []string {
 	return nil
 }
 
-// scope is a name that is known, what it is called anew, and what is known around it.
-type scope struct {
+// scope is a name that is known, what it stands for there, and what is known around it.
+type scope[T any] struct {
 	name   string
-	anew   string
-	around *scope
+	is     T
+	around *scope[T]
 }
 
-// find is what the innermost of that name is called anew, and whether there is one.
-func (s *scope) find(name string) (string, bool) {
+// with is a scope with one more name, the innermost one.
+func (s *scope[T]) with(name string, is T) *scope[T] {
+	return &scope[T]{name: name, is: is, around: s}
+}
+
+// find is what the innermost of that name stands for, and whether there is one.
+func (s *scope[T]) find(name string) (T, bool) {
 	for ; s != nil; s = s.around {
 		if s.name == name {
-			return s.anew, true
+			return s.is, true
 		}
 	}
-	return "", false
+	var none T
+	return none, false
 }
 
 // namer goes through a tree in the order of its nodes, and keeps them with new names, and what it found free.
@@ -343,7 +349,7 @@ type namer struct {
 	made  int
 }
 
-func (n *namer) walk(f form, known *scope) {
+func (n *namer) walk(f form, known *scope[string]) {
 	old := nodeOf(f)
 	plain := n.rename(old, known)
 	n.plain = append(n.plain, plain)
@@ -351,14 +357,14 @@ func (n *namer) walk(f form, known *scope) {
 		inner := known
 		anew := knownIn(plain, i)
 		for j, name := range knownIn(old, i) {
-			inner = &scope{name: name, anew: anew[j], around: inner}
+			inner = inner.with(name, anew[j])
 		}
 		n.walk(kid, inner)
 	}
 }
 
 // rename gives a node's names their new ones. Those it keeps are copied, since an answer shares no memory with the tree.
-func (n *namer) rename(node Node, known *scope) Node {
+func (n *namer) rename(node Node, known *scope[string]) Node {
 	switch node.Kind {
 	case NVar:
 		anew, found := known.find(node.A)
