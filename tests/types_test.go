@@ -146,6 +146,8 @@ func TestSets(t *testing.T) {
 	checkTypes(t, []typedCase{
 		{"shallow do ask () with ret r -> fn n -> r | ask u k -> k end", "int -[ask]-> int"}, {"fn g -> handle do tell 1 with ret r -> 1 | ask u k -> (if true then k else g) 1 end", "(int -[tell]-> int) -[tell]-> int"}, {"fn g -> shallow do tell 1 with ret r -> 1 | ask u k -> let a = (if true then k else g) 1 in 1 end", "(int -[tell]-> unit) -[tell]-> int"},
 		{"let h = fn f -> f () in let a = fn u -> h (fn v -> do ask v) in h", "(unit -[ask]-> '0) -[ask]-> '0"}, {"let i = fn x -> x in let a = i (fn v -> do ask v) in i (fn v -> ())", "'0 -> unit"}, {"let f = fn g -> fn x -> g x in let a = f (fn v -> do ask v) in f (fn v -> v)", "'0 -[ask]-> '0"},
+		// what flows in last flows on to what was there first
+		{"(fn f -> fn u -> f ()) (fn v -> (fn w -> do ask w) v)", "'0 -[ask]-> int"}, {"(fn f -> fn u -> f ()) ((fn g -> fn v -> g v) (fn w -> (fn w -> do ask w) w))", "'0 -[ask]-> int"},
 		{"fn u -> handle do ask u with ret r -> r | ask u k -> k 1 end", "unit -> int"}, {"fn u -> shallow do ask u with ret r -> r | ask u k -> k 1 end", "unit -[ask]-> int"},
 	})
 }
@@ -219,6 +221,10 @@ func TestTypesThatGrow(t *testing.T) {
 		}
 	}
 	impl.TypeOf(mustRead(t, "let a = 1 in "+repeated("let a = (a, a) in ", 36)+"a"))
+	// Two such types are made one.
+	if effs, ok := impl.TypeEffs(mustRead(t, "let p = (1, 1) in "+repeated("let p = ((fst p, fst p), (snd p, snd p)) in ", 23)+"if true then fst p else snd p")); len(effs) > 0 || !ok {
+		t.Fatalf("%q %v", effs, ok)
+	}
 }
 
 func TestModelOfTypesAgrees(t *testing.T) {
