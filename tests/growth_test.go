@@ -134,6 +134,10 @@ func TestVariablesOfOneUse(t *testing.T) {
 		{turn + "let h = fn x -> let g = fn z -> f x in g in (h (1, true) (), h ((), 2) 3)", "(bool * int) * (int * unit)"}, {turn + "let h = fn q -> (fn x -> let g = fn z -> x in g 0) q in (h 1, h (true, f (1, ())))", "int * (bool * (unit * int))"},
 		{first + "let h = fn q -> (fn x -> let g = fn z -> (f x, z) in g) q in (h nil 1, (h (1 :: nil) 2, h (true :: nil) ()))", "('0 list * int) * ((int list * int) * (bool list * unit))"},
 	})
+	// Two uses are made one in part: what they share with their other parts is one then, too.
+	twins := "let n = fn u -> let l = nil in (l :: nil, l :: nil) in let f = fn u -> n u in let p = f 1 in let q = f 1 in "
+	checkTypes(t, []typedCase{{twins + "((1 :: nil) :: snd p, (true :: nil) :: snd q)", "int list list * bool list list"}, {twins + "let e = if true then fst p else fst q in ((1 :: nil) :: snd p, snd q)", "int list list * int list list"}})
+	checkUntyped(t, impl.TypeClash, twins+"let e = if true then fst p else fst q in ((1 :: nil) :: snd p, (true :: nil) :: snd q)", twins+"let e = if true then p else q in ((1 :: nil) :: snd p, (true :: nil) :: fst q)")
 	checkUntyped(t, impl.TypeClash,
 		first+"fn x -> let g = fn z -> f x in (1 :: g (), true :: g ())", turn+"fn x -> let g = fn z -> f x in (fst (g 1) + 1, if fst (g 1) then 1 else 2)", twice+"fn e -> let g = fn z -> f e in (g 1 1, g 1 true)", first+"fn x -> let g = fn z -> fn y -> f (z :: x) in (g 1, g true)", first+"fn x -> let y = f x in let g = fn z -> f y in (1 :: g (), true :: g ())",
 		turn+"fn x -> let rec g z = f x in (fst (g 1) + 1, if fst (g 1) then 1 else 2)", first+"fn x -> let f = fn z -> f x in let g = fn z -> f z in (1 :: g (), true :: g ())", first+"fn x -> if true then x else f x :: nil")
