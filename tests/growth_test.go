@@ -46,6 +46,16 @@ func TestLargeTypesDoNotClash(t *testing.T) {
 	}
 }
 
+// What a function is given may share variables with what it gives that are few, among many others.
+func TestLargeTypesOfFewSharedVariables(t *testing.T) {
+	callers := growth{"fn f -> fn x -> f x", "fn f -> fn x -> (a, a f)"}
+	for many := range growthMaxLets {
+		lets := callers.lets(many)
+		checkTypes(t, []typedCase{{lets + "fn y -> let g = fn z -> (a y, a y) in let h = (g 1, g ()) in 0", "('0 -> '1) -> int"}, {lets + "fn y -> fn w -> let g = fn z -> if true then a y else a w in let h = (g 1, g ()) in 0", "('0 -> '1) -> ('0 -> '1) -> int"}})
+		checkUntyped(t, impl.TypeClash, lets+"fn y -> let g = fn z -> (a y, a z) in g 1")
+	}
+}
+
 // What a function gives holds what it was given: to make them one is to make a variable part of itself.
 func TestLargeTypesThatWouldHoldThemselves(t *testing.T) {
 	for _, g := range []growth{pairsOfUses, pairsDeeper, listsDeeper, functions, pairsInward} {
@@ -57,16 +67,36 @@ func TestLargeTypesThatWouldHoldThemselves(t *testing.T) {
 
 // Two uses of one function are made one, without all of their parts being gone through.
 func TestLargeTypesAreMadeOne(t *testing.T) {
-	for _, g := range []growth{pairsOfUses, pairsDeeper, listsDeeper} {
-		for many := range growthMaxLets + 1 {
-			checkTypes(t, []typedCase{{g.lets(many) + "let b = if true then a else a in 0", "int"}, {g.lets(many) + "fn x -> fn y -> let b = if true then a x else a y in x", "'0 -> '0 -> '0"}})
+	for _, g := range []growth{pairsOfUses, pairsDeeper, listsDeeper, functions, pairsInward} {
+		for many := range growthMaxLets {
+			checkTypes(t, []typedCase{{g.lets(many) + "fn x -> fn y -> let b = if true then a x else a y in x", "'0 -> '0 -> '0"}})
 			checkUntyped(t, impl.TypeClash, g.lets(many)+"if true then a 1 else a true", g.lets(many)+"fn x -> if true then a x else a (x, x)")
 		}
 	}
-	for _, g := range []growth{functions, pairsOfSelf, pairsOfNils} {
-		for many := range 10 {
-			checkTypes(t, []typedCase{{g.lets(many) + "let b = if true then a else a in 0", "int"}})
+	for _, g := range []growth{pairsOfUses, pairsDeeper, listsDeeper, functions, pairsInward, pairsOfSelf, pairsOfNils} {
+		for many := range growthMaxLets {
+			lets := g.lets(many)
+			checkTypes(t, []typedCase{{lets + "let b = if true then a else a in 0", "int"}, {lets + "let b = a :: a :: nil in 0", "int"}, {lets + "fn x -> let b = if true then a x else a x in x", "'0 -> '0"}, {lets + "fn x -> let g = fn z -> if true then a x else a x in let h = (g 1, g ()) in x", "'0 -> '0"}})
 		}
+	}
+}
+
+// Types of very many variables share them, through parts of one use that are both large.
+func TestLargeTypesShareVariables(t *testing.T) {
+	for _, lets := range []int{3, 7, 8, 9} {
+		next := -1
+		list := "(" + doubledText(lets, func() string {
+			next++
+			return "'" + strconv.Itoa(next) + " list"
+		}) + ") list"
+		large := pairsOfNils.lets(lets)
+		twins := large + "let m = fn x -> let y = a x in (y :: nil, y :: nil) in let p = m 1 in let q = m 1 in "
+		first := large + "let f = fn l -> case l of nil -> a 1 :: nil | h :: t -> h :: nil in "
+		checkTypes(t, []typedCase{
+			{twins + "let e = if true then fst p else fst q in (fst p, snd q)", list + " * " + list}, {twins + "let e = if true then snd q else snd p in (fst q, snd p)", list + " * " + list},
+			{large + "let f = fn l -> (case l of nil -> a 1 :: nil | h :: t -> h :: nil, nil) in fn x -> let g = fn z -> f x in (1 :: snd (g 1), true :: snd (g 2))", list + " -> int list * bool list"},
+			{first + "fn x -> let g = fn z -> f x in (g 1, g ())", list + " -> " + list + " * " + list}, {first + "fn x -> let g = fn z -> f x in let h = fn z -> g z in (h 1, x)", list + " -> " + list + " * " + list},
+		})
 	}
 }
 
@@ -190,6 +220,37 @@ func (l *letter) expr(known []string, deep int) string {
 		return "(if true then " + l.part(known, deep) + " else " + l.part(known, deep) + ")"
 	}
 	return "(" + l.part(known, deep) + " :: " + l.part(known, deep) + ")"
+}
+
+// sharing makes a program of uses of one function, parts of which are made one.
+func (l *letter) sharing() string {
+	made := []string{
+		"let n = fn x -> let l = nil in (l :: nil, l :: nil) in let m = fn x -> n x in let o = fn x -> (m x, m x) in ", "let n = fn x -> let l = nil in let k = nil in ((l :: nil, k :: nil), (k :: nil, (l :: nil, x))) in let m = fn x -> n x in let o = fn x -> let y = m x in (y, snd y) in ",
+		"let n = fn x -> let l = nil in ((l, l), (fn y -> l, l :: nil)) in let m = fn x -> n x in let o = fn x -> (m x, m x) in ", "let n = fn x -> let l = nil in ((l :: nil, x :: nil), (x, l) :: nil) in let m = fn x -> (n x, snd (n x)) in let o = fn x -> m x in ",
+	}[l.IntN(4)]
+	fn := []string{"n", "m", "o"}[l.IntN(3)]
+	text := made + "let p = " + fn + " 1 in let q = " + fn + " 1 in let r = " + []string{fn, "m"}[l.IntN(2)] + " 1 in "
+	for range 1 + l.IntN(4) {
+		known := []string{"p", "q", "r"}
+		left, right := known[l.IntN(3)], known[l.IntN(3)]
+		for range 1 + l.IntN(3) {
+			take := []string{"(fst ", "(snd "}[l.IntN(2)]
+			left, right = take+left+")", take+right+")"
+		}
+		text += "let e = " + []string{"", "", "fn z -> "}[l.IntN(3)] + "if true then " + left + " else " + right + " in "
+	}
+	return text + "(p, (q, r))"
+}
+
+func TestModelOfTypesAgreesOnSharing(t *testing.T) {
+	l := &letter{Rand: dice(88)}
+	codes := map[int]int{}
+	for range 2000 {
+		codes[checkTyped(t, mustRead(t, l.sharing()))]++
+	}
+	if codes[impl.TypeOk] < 300 || codes[impl.TypeClash] < 300 {
+		t.Fatalf("too few: %v", codes)
+	}
 }
 
 func TestModelOfTypesAgreesOnLets(t *testing.T) {
