@@ -145,7 +145,7 @@ func TestLongTextsOfTypes(t *testing.T) {
 
 // A text that no memory holds is left out; the call ends all the same.
 func TestTextsThatNoMemoryHolds(t *testing.T) {
-	for _, text := range []string{pairsOfUses.lets(30) + "a", pairsDeeper.lets(6) + "a", "let a = 1 in " + repeated("let a = (a, a) in ", 36) + "a", "fn x -> let a = (x, x) in " + repeated("let a = (a, a) in ", 35) + "a"} {
+	for _, text := range []string{pairsOfUses.lets(30) + "a", pairsDeeper.lets(6) + "a", pairsDeeper.lets(30) + "a", "let a = 1 in " + repeated("let a = (a, a) in ", 36) + "a", "fn x -> let a = (x, x) in " + repeated("let a = (a, a) in ", 35) + "a"} {
 		if got, code := impl.TypeOf(mustRead(t, text)); got != "" || code != impl.TypeOk {
 			t.Errorf("%q: %d bytes, %d", text, len(got), code)
 		}
