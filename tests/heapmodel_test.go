@@ -227,23 +227,33 @@ func (m *modelHeap) allFine(list []int) bool {
 
 func modelMake(h heap, roots []int, kind int, fields []int, scans int) (heap, []int, int, bool) {
 	m, ok := modelParsed(h)
-	if !ok || fieldCount(kind) != len(fields) || scans < 0 || scans > 20 || len(roots) > 20 || !m.allFine(roots) || !m.allFine(fields) || !m.scan(scans) {
+	if !ok || fieldCount(kind) != len(fields) || scans < 0 || scans > 20 || len(roots) > 20 || !m.allFine(roots) || !m.allFine(fields) {
 		return heap{}, nil, 0, false
 	}
+	roots, w, ok := m.add(roots, kind, fields, scans)
+	if !ok {
+		return heap{}, nil, 0, false
+	}
+	return m.rendered(), roots, w, true
+}
+
+// add makes an object that may be: the roots, and a word that leads to it.
+func (m *modelHeap) add(roots []int, kind int, fields []int, scans int) ([]int, int, bool) {
+	ok := m.scan(scans)
 	words := 1 + len(fields)
 	roots, fields = slices.Clone(roots), slices.Clone(fields)
-	if m.h.Bottom+words > m.h.Top && m.h.Scan == m.h.Bottom {
+	if ok && m.h.Bottom+words > m.h.Top && m.h.Scan == m.h.Bottom {
 		if roots, ok = m.flip(roots); ok {
 			fields, ok = m.moveList(fields)
 		}
 	}
 	if !ok || m.h.Bottom+words > m.h.Top {
-		return heap{}, nil, 0, false
+		return roots, 0, false
 	}
 	m.h.Top -= words
 	m.h.Touched += words
 	m.used[m.h.Top] = &modelObj{kind, fields}
-	return m.rendered(), roots, 8 * m.h.Top, true
+	return roots, 8 * m.h.Top, true
 }
 
 func modelField(h heap, w int, i int) (heap, int, bool) {
