@@ -19,14 +19,14 @@ func TestStepsOfTheMachine(t *testing.T) {
 		value   string
 	}{
 		{"1", []int{3, 2}, 0, "1"}, {"true", []int{3, 2}, 0, "true"}, {"()", []int{3, 2}, 0, "()"}, {"nil", []int{3, 2}, 0, "[]"}, {"fn x -> x", []int{6, 2}, 0, "fn"},
-		{"1 + 2", []int{3, 3, 7, 2}, 0, "3"}, {"1 < 2", []int{3, 3, 7, 2}, 0, "true"}, {"(1, 2)", []int{3, 3, 10, 2}, 0, "(1, 2)"}, {"1 :: nil", []int{3, 3, 10, 2}, 0, "[1]"}, {"snd (1, 2)", []int{3, 3, 10, 6, 2}, 0, "2"}, {"print 3", []int{3, 5, 2}, 0, "()"},
+		{"1 + 2", []int{3, 3, 7, 2}, 0, "3"}, {"1 < 2", []int{3, 3, 7, 2}, 0, "true"}, {"(1, 2)", []int{3, 3, 10, 2}, 0, "(1, 2)"}, {"1 :: nil", []int{3, 3, 10, 2}, 0, "[1]"}, {"1 :: 2 :: nil", []int{3, 3, 3, 10, 11, 2}, 0, "[1 2]"}, {"snd (1, 2)", []int{3, 3, 10, 7, 2}, 0, "2"}, {"print 3", []int{3, 5, 2}, 0, "()"},
 		{"let a = 1 in let b = 2 in a", []int{3, 5, 3, 5, 5, 1, 1, 2}, 0, "1"}, {"if true then 1 else 2", []int{3, 2, 3, 0, 2}, 0, "1"}, {"if false then 1 else 2", []int{3, 2, 3, 2}, 0, "2"},
-		{"case nil of nil -> 1 | a :: b -> 2", []int{3, 2, 3, 2}, 0, "1"}, {"case 1 :: nil of nil -> 0 | a :: b -> a", []int{3, 3, 10, 10, 5, 1, 1, 0, 2}, 0, "1"},
-		{"(fn x -> x) 5", []int{6, 3, 15, 4, 9, 2}, 0, "5"}, {"let rec f x = x in f 5", []int{10, 5, 4, 3, 15, 4, 9, 1, 2}, 0, "5"},
+		{"case nil of nil -> 1 | a :: b -> 2", []int{3, 2, 3, 2}, 0, "1"}, {"case 1 :: nil of nil -> 0 | a :: b -> a", []int{3, 3, 10, 11, 5, 1, 1, 0, 2}, 0, "1"},
+		{"(fn x -> x) 5", []int{6, 3, 16, 4, 9, 2}, 0, "5"}, {"let rec f x = x in f 5", []int{10, 5, 4, 3, 16, 4, 9, 1, 2}, 0, "5"},
 		{"handle 1 with ret r -> r end", []int{12, 3, 9, 4, 9, 2}, 0, "1"}, {"handle do ask () with ret r -> r | ask u k -> 7 end", []int{12, 3, 2, 16, 3, 9, 2}, 0, "7"},
-		{"handle do ask () with ret r -> r | ask u k -> k 7 end", []int{12, 3, 2, 16, 4, 3, 21, 6, 9, 4, 9, 9, 2}, 0, "7"}, {"shallow do ask () with ret r -> r + 1 | ask u k -> k 7 end", []int{12, 3, 2, 16, 4, 3, 21, 6, 13, 9, 2}, 0, "7"},
-		{"handle (handle do ask () with ret r -> r | tell u k -> 1 end) with ret r -> r | ask u k -> k 7 end", []int{12, 12, 3, 2, 5, 16, 4, 3, 21, 12, 6, 9, 4, 9, 9, 4, 9, 9, 2}, 0, "7"},
-		{"1 2", []int{3, 3, 4}, impl.EndStuck, ""}, {"print ()", []int{3, 2}, impl.EndStuck, ""}, {"if 1 then 2 else 3", []int{3, 2}, impl.EndStuck, ""}, {"fst 1", []int{3, 2}, impl.EndStuck, ""}, {"case 1 of nil -> 1 | a :: b -> 2", []int{3, 2}, impl.EndStuck, ""}, {"1 :: 2", []int{3, 3, 4}, impl.EndStuck, ""}, {"1 + true", []int{3, 3, 4}, impl.EndStuck, ""}, {"do ask ()", []int{3, 2, 0}, impl.EndOp, ""}, {"handle do ask () with ret r -> r | tell u k -> k 1 end", []int{12, 3, 2, 5, 0}, impl.EndOp, ""},
+		{"handle do ask () with ret r -> r | ask u k -> k 7 end", []int{12, 3, 2, 16, 4, 3, 22, 6, 9, 4, 9, 9, 2}, 0, "7"}, {"shallow do ask () with ret r -> r + 1 | ask u k -> k 7 end", []int{12, 3, 2, 16, 4, 3, 22, 6, 13, 9, 2}, 0, "7"},
+		{"handle (handle do ask () with ret r -> r | tell u k -> 1 end) with ret r -> r | ask u k -> k 7 end", []int{12, 12, 3, 2, 5, 16, 4, 3, 22, 12, 6, 9, 4, 9, 9, 4, 9, 9, 2}, 0, "7"},
+		{"1 2", []int{3, 3, 4}, impl.EndStuck, ""}, {"nil 2", []int{3, 3, 4}, impl.EndStuck, ""}, {"(1, 2) 3", []int{3, 3, 10, 3, 5}, impl.EndStuck, ""}, {"print ()", []int{3, 2}, impl.EndStuck, ""}, {"if 1 then 2 else 3", []int{3, 2}, impl.EndStuck, ""}, {"fst 1", []int{3, 2}, impl.EndStuck, ""}, {"case 1 of nil -> 1 | a :: b -> 2", []int{3, 2}, impl.EndStuck, ""}, {"1 :: 2", []int{3, 3, 4}, impl.EndStuck, ""}, {"1 + true", []int{3, 3, 4}, impl.EndStuck, ""}, {"do ask ()", []int{3, 2, 0}, impl.EndOp, ""}, {"handle do ask () with ret r -> r | tell u k -> k 1 end", []int{12, 3, 2, 5, 0}, impl.EndOp, ""},
 	} {
 		code, most := codeOf(t, c.text), 0
 		for fuel, touches := range c.touches {
@@ -85,6 +85,56 @@ func TestChangesOfSpaces(t *testing.T) {
 	wantRun(t, names, 600, 20, 1000, impl.EndDone, 204, 1, 1054)
 	// One cell more fits: the names are read ahead of the change, and the last one alone is moved.
 	wantRun(t, names, 603, 0, 1000, impl.EndDone, 204, 1, 111)
+}
+
+// askedAfresh is code in which an instruction pops what a change of spaces has just copied, with the place of that instruction. Of objects of three words six fit on 20 words: for the seventh one the spaces are changed. The body of a function is at 1.
+func askedAfresh(values []ins, objects int, o int) ([]ins, int) {
+	c := slices.Concat([]ins{does(impl.IJump, 3), does(impl.IUnit), does(impl.IRet)}, values)
+	for ; objects <= 6; objects++ {
+		c = append(c, does(impl.IBool), does(impl.ITest, len(c)+2))
+	}
+	at := len(c)
+	switch o {
+	case impl.IFst, impl.ISnd:
+		return slices.Concat(c, []ins{does(o)}, spent(2)), at
+	case impl.ICase:
+		return slices.Concat(c, []ins{does(o, at+2)}, spent(1), spent(1)), at
+	}
+	return slices.Concat(c, []ins{does(o)}, spent(1)), at
+}
+
+// To ask for an object's kind touches its first word, whatever comes of it; a word that leads to no object has none to touch. Counted by hand.
+func TestKindsThatAreAskedFor(t *testing.T) {
+	unit, nothing, clos := does(impl.IUnit), does(impl.INil), does(impl.IClos, 1)
+	pair, cons := does(impl.IPair), does(impl.ICons)
+	for _, c := range []struct {
+		values  []ins
+		objects int
+		op      int
+		end     int
+		touch   int
+	}{
+		// Two pops, in which a cell and what was called are moved, 22; the first word 1.
+		{[]ins{unit, unit, pair, unit}, 5, impl.IApp, impl.EndStuck, 23}, {[]ins{unit, nothing, cons, unit}, 5, impl.IApp, impl.EndStuck, 23},
+		// Behind it a frame 3, its cell 3, two fields 2; there is no room for the name.
+		{[]ins{clos, unit}, 3, impl.IApp, impl.EndMemory, 31},
+		// No object is called: two pops, in which one cell is moved, 13, are no more than the change of spaces.
+		{[]ins{nothing, unit}, 2, impl.IApp, impl.EndStuck, 13}, {[]ins{unit, unit}, 2, impl.IApp, impl.EndStuck, 13},
+		// A pop, in which the object and a cell are moved, 20; the first word 1; a field 1; a cell 3.
+		{[]ins{unit, unit, unit, pair}, 5, impl.IFst, impl.EndFuel, 25}, {[]ins{unit, unit, unit, pair}, 5, impl.ISnd, impl.EndFuel, 25},
+		{[]ins{unit, unit, nothing, cons}, 5, impl.IFst, impl.EndStuck, 21}, {[]ins{unit, clos}, 3, impl.ISnd, impl.EndStuck, 21},
+		// Two pops 22, the first word 1; the object 3, its cell 3.
+		{[]ins{unit, unit, nothing, cons}, 5, impl.ICons, impl.EndFuel, 29}, {[]ins{unit, unit, unit, pair}, 5, impl.ICons, impl.EndStuck, 23}, {[]ins{unit, clos}, 3, impl.ICons, impl.EndStuck, 23},
+		// Behind no object: two pops 13; the object 3, its cell 3.
+		{[]ins{unit, nothing}, 2, impl.ICons, impl.EndFuel, 19}, {[]ins{unit, unit}, 2, impl.ICons, impl.EndStuck, 13},
+		// A pop 20, the first word 1; two fields 2, two cells 6.
+		{[]ins{unit, unit, nothing, cons}, 5, impl.ICase, impl.EndFuel, 29}, {[]ins{unit, unit, unit, pair}, 5, impl.ICase, impl.EndStuck, 21}, {[]ins{unit, clos}, 3, impl.ICase, impl.EndStuck, 21},
+	} {
+		code, at := askedAfresh(c.values, c.objects, c.op)
+		// The change of spaces: Stk's cell moved 8, its new address read 2, a cell 3.
+		wantRun(t, code, 20, 0, at-2, impl.EndFuel, at-2, 1, 13)
+		wantRun(t, code, 20, 0, at-1, c.end, at-1, 1, c.touch)
+	}
 }
 
 // The limits may be met exactly; one more, or one less, is refused.

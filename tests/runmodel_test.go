@@ -42,9 +42,13 @@ func newModelMachine(c []ins, size int, scans int) *modelMachine {
 	return m
 }
 
-// is tells whether a word leads to an object of that kind.
-func (m *modelMachine) is(w int, kind int) bool {
-	return modelTag(w) == 0 && m.mem.used[modelNum(w)].kind == kind
+// kind reads the first word of what a word leads to; of one that leads to nothing there is none.
+func (m *modelMachine) kind(w int) int {
+	if modelTag(w) != 0 {
+		return 0
+	}
+	m.mem.h.Touched++
+	return m.mem.used[modelNum(w)].kind
 }
 
 // of reads a field of what a word leads to; fields count from 1, as the document has them.
@@ -171,12 +175,12 @@ func (m *modelMachine) plain(i ins) bool {
 		m.push(unitWord)
 	case impl.IFst, impl.ISnd:
 		w := m.pop()
-		stuckUnless(m.is(w, impl.ObjPair))
+		stuckUnless(m.kind(w) == impl.ObjPair)
 		m.push(m.of(w, 1+i.Op-impl.IFst))
 	case impl.IPair, impl.ICons:
 		b := m.pop()
 		a := m.pop()
-		stuckUnless(i.Op == impl.IPair || modelTag(b) == 4 || m.is(b, impl.ObjCons))
+		stuckUnless(i.Op == impl.IPair || modelTag(b) == 4 || m.kind(b) == impl.ObjCons)
 		m.push(m.fresh("", map[int]int{impl.IPair: impl.ObjPair, impl.ICons: impl.ObjCons}[i.Op], a, b))
 	default:
 		return false
@@ -216,7 +220,7 @@ func (m *modelMachine) other(i ins) {
 			m.place = i.A
 			return
 		}
-		stuckUnless(m.is(w["Acc"], impl.ObjCons))
+		stuckUnless(m.kind(w["Acc"]) == impl.ObjCons)
 		for field := 1; field <= 2; field++ {
 			v := m.of(w["Acc"], field)
 			m.fresh("Env", impl.ObjCell, v, w["Env"])
@@ -241,8 +245,9 @@ func (m *modelMachine) app() {
 	w := m.words
 	w["Acc"] = m.pop()
 	w["Kr"] = m.pop()
-	stuckUnless(m.is(w["Kr"], impl.ObjClos) || m.is(w["Kr"], impl.ObjCont))
-	if m.is(w["Kr"], impl.ObjClos) {
+	kind := m.kind(w["Kr"])
+	stuckUnless(kind == impl.ObjClos || kind == impl.ObjCont)
+	if kind == impl.ObjClos {
 		m.frame(m.place)
 		m.place = modelNum(m.of(w["Kr"], 1))
 		env := m.of(w["Kr"], 2)
